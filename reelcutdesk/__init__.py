@@ -1,0 +1,1 @@
+"""Reels: streams held as parts with times, read in pieces and past damage."""
