@@ -135,11 +135,11 @@ def look_at_box(reader):
     return None
 
 
-# Once something was lost, the parts told no longer say how many may still come.
+# The parts told are counted, whatever was lost between them: a reel has no more than that in mending either.
 def kinds_due(reader):
     if len(reader.streams) == 0:
         return (HEAD_KIND,)
-    if len(reader.parts) >= MOST_PARTS and not reader.lost:
+    if len(reader.parts) == MOST_PARTS:
         return (INDEX_KIND,)
     return (PART_KIND, INDEX_KIND)
 

@@ -17,11 +17,20 @@ def told_box(which, flags, time, place, data=()):
     return [2, which, flags, time, 0, place, len(data), len(data)] + list(data)
 
 
+def changed(data, at, change=1):
+    data = list(data)
+    data[at] ^= change
+    return data
+
+
+def with_loose_index(reel):
+    """The reel with an index that is right by its form alone."""
+    return with_index(reel, index_body([], 0))
+
+
 class Mending(unittest.TestCase):
     def damaged(self, reel, at, change=1):
-        data = list(reel.data)
-        data[at] ^= change
-        return data
+        return changed(reel.data, at, change)
 
     def without(self, reel, k, fault):
         """What is told of a reel whose part k is lost by that fault."""
@@ -350,10 +359,45 @@ class IndexBehindDamage(Mending):
 class MoreThanSixteen(Mending):
     def test_the_seventeenth_is_a_fault(self):
         reel = reel_of([part(time=k) for k in range(17)])
-        self.assertEqual(told_of(with_index(reel, index_body([], 0)), 1), reel.told()[:17] + [
+        self.assertEqual(told_of(with_loose_index(reel), 1), reel.told()[:17] + [
             [4, 1, 0, reel.places[16] + 3], [5, reel.index], [3], [6]])
 
-    def test_whole_boxes_behind_it_are_told(self):
+    def test_those_behind_it_are_faults_too(self):
         reel = reel_of([part(time=k) for k in range(19)])
-        self.assertEqual(told_of(with_index(reel, index_body([], 0)), 1), reel.told()[:17] + [
-            [4, 1, 0, reel.places[16] + 3], [5, reel.places[17]]] + reel.told()[18:])
+        faults = []
+        for place, then in zip(reel.places[16:], reel.places[17:] + [reel.index]):
+            faults += [[4, 1, 0, place + 3], [5, then]]
+        self.assertEqual(told_of(with_loose_index(reel), 1), reel.told()[:17] + faults + [[3], [6]])
+
+    def test_a_lost_part_makes_room_for_one(self):
+        reel = reel_of([part(time=k) for k in range(17)])
+        data = changed(with_loose_index(reel), reel.places[5])
+        self.assertEqual(told_of(data, 1), self.without(reel, 5, [4, 1, 0, reel.places[5]]))
+        reel = reel_of([part(time=k) for k in range(18)])
+        data = changed(with_loose_index(reel), reel.places[5])
+        told = self.without(reel, 5, [4, 1, 0, reel.places[5]])
+        self.assertEqual(told_of(data, 1), told[:19] + [[4, 1, 0, reel.places[17] + 3], [5, reel.index], [3], [6]])
+
+    def test_found_behind_sixteen_it_is_told_at_once(self):
+        reel = reel_of([part(time=k) for k in range(16)])
+        more = box(PART, part_body(part(time=16)))
+        data = reel.data[:reel.index] + [0] + more + box(INDEX, index_body([], 0))
+        place = reel.index + 1
+        told = play([data], 1)
+        self.assertEqual(told[17:], [
+            ([4, 1, 0, reel.index], place), ([5, place], place + 12), ([4, 1, 0, place + 3], place + 12),
+            ([5, place + 20], place + 32), ([3], len(data)), ([6], len(data))])
+
+    def test_found_behind_the_index(self):
+        reel = reel_of([part(time=k) for k in range(16)])
+        size = len(reel.data)
+        data = reel.data + [0] + box(PART, part_body(part(time=16)))
+        self.assertEqual(told_of(data, 1), reel.told()[:-1] + [
+            [4, 9, 0, size], [5, size + 1], [4, 1, 0, size + 4]] + NOTHING)
+
+    def test_a_part_within_the_seventeenth(self):
+        inner = box(PART, part_body(part(time=17)))
+        reel = reel_of([part(time=k) for k in range(16)] + [part(time=16, data=inner)])
+        place = reel.places[16] + 16
+        self.assertEqual(told_of(with_loose_index(reel), 1), reel.told()[:17] + [
+            [4, 1, 0, reel.places[16] + 3], [5, place], [4, 1, 0, place + 3], [5, reel.index], [3], [6]])
