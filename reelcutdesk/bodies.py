@@ -1,8 +1,8 @@
-"""What stands in the bodies of the three kinds of boxes."""
+"""What stands in the bodies of the three kinds of boxes: how it is read, and how it is written."""
 
-from reelcutdesk.boxes import MARK
-from reelcutdesk.forms import FORM_FAULT, Fault, expect_byte, expect_end, lowest_first, read_number, read_rest
-from reelcutdesk.forms import read_signed, read_string, read_within, signed_form, take_byte
+from reelcutdesk.forms import FORM_FAULT, Body, Fault, expect_byte, expect_end, lowest_first, numbers_form, read_number
+from reelcutdesk.forms import read_rest, read_signed, read_string, read_within, signed_form, string_form, take_one
+from reelcutdesk.reels import Part, Stream
 
 FORM = 1
 MOST_STREAMS = 4
@@ -16,27 +16,8 @@ MOST_LENGTH = 4294967295
 MOST_FLAGS = 3
 MOST_SIZE = 600
 PLACE_SIZE = 8
-LAST_BYTE = 46
+LAST_BYTES = (76, 119, 142, 46)
 INDEX_FAULT = 7
-
-
-class Stream:
-    def __init__(self, kind, num, den, name, setup):
-        self.kind = kind
-        self.num = num
-        self.den = den
-        self.name = name
-        self.setup = setup
-
-
-class Part:
-    def __init__(self, stream, time, length, flags):
-        self.stream = stream
-        self.time = time
-        self.length = length
-        self.flags = flags
-        self.place = 0
-        self.data = []
 
 
 def common_divisor(a, b):
@@ -45,6 +26,15 @@ def common_divisor(a, b):
         a = b
         b = rest
     return a
+
+
+def head_form(streams):
+    form = numbers_form([FORM, len(streams)])
+    for stream in streams:
+        form.extend(numbers_form([stream.kind, stream.num, stream.den]))
+        form.extend(string_form(stream.name))
+        form.extend(string_form(stream.setup))
+    return form
 
 
 def read_head(body):
@@ -66,11 +56,31 @@ def read_stream(body):
     return Stream(kind, num, den, name, setup)
 
 
+# Read as a head's streams are, so that none is written that a head may not have.
+def listed_streams(numbers):
+    body = Body(numbers, 0, len(numbers))
+    body.plain = True
+    streams = []
+    while body.at < body.end:
+        streams.append(read_stream(body))
+    if len(streams) == 0 or len(streams) > MOST_STREAMS:
+        raise Fault(FORM_FAULT, 0)
+    return streams
+
+
 def read_time(body, before):
     time = before + read_signed(body)
     if time <= -MOST_TIME or time > MOST_TIME:
         raise Fault(FORM_FAULT, body.places[-1])
     return time
+
+
+def part_numbers_form(part):
+    return numbers_form([part.stream, signed_form(part.time), part.length, part.flags])
+
+
+def part_form(part):
+    return part_numbers_form(part) + part.data
 
 
 def read_part(body, streams):
@@ -79,23 +89,25 @@ def read_part(body, streams):
     time = read_time(body, 0)
     length = read_within(body, 0, MOST_LENGTH)
     flags = read_within(body, 0, MOST_FLAGS)
-    part = Part(stream, time, length, flags)
-    part.data = read_rest(body)
-    return part
+    return Part(stream, time, length, flags, read_rest(body))
 
 
-def index_numbers(streams, parts):
-    times = [0 for stream in streams]
-    numbers = [len(parts)]
-    for part in parts:
+def index_numbers(reel):
+    times = [0 for stream in reel.streams]
+    numbers = [len(reel.parts)]
+    for part in reel.parts:
         since = part.time - times[part.stream]
         times[part.stream] = part.time
-        numbers.extend([part.stream, signed_form(since), part.length, part.flags, len(part.data)])
+        numbers.extend([part.stream, signed_form(since), part.length, part.flags, part.size])
     return numbers
 
 
-def expect_index(body, streams, parts, place):
-    for wanted in index_numbers(streams, parts):
+def index_form(reel, place):
+    return numbers_form(index_numbers(reel)) + lowest_first(place, PLACE_SIZE) + list(LAST_BYTES)
+
+
+def expect_index(body, reel, place):
+    for wanted in index_numbers(reel):
         if read_number(body) != wanted:
             raise Fault(INDEX_FAULT, body.places[-1])
     for wanted in lowest_first(place, PLACE_SIZE):
@@ -107,19 +119,24 @@ def expect_index(body, streams, parts, place):
 def read_loose_index(body, streams):
     times = [0 for stream in streams]
     count = read_within(body, 0, MOST_PARTS)
-    for k in range(count):
-        stream = read_within(body, 0, len(streams) - 1)
-        times[stream] = read_time(body, times[stream])
-        read_within(body, 0, MOST_LENGTH)
-        read_within(body, 0, MOST_FLAGS)
-        read_within(body, 0, MOST_SIZE)
+    parts = [read_listed_part(body, times) for k in range(count)]
     for k in range(PLACE_SIZE):
-        take_byte(body)
+        take_one(body)
     expect_index_end(body)
+    return parts
+
+
+def read_listed_part(body, times):
+    stream = read_within(body, 0, len(times) - 1)
+    times[stream] = read_time(body, times[stream])
+    length = read_within(body, 0, MOST_LENGTH)
+    flags = read_within(body, 0, MOST_FLAGS)
+    part = Part(stream, times[stream], length, flags, [])
+    part.size = read_within(body, 0, MOST_SIZE)
+    return part
 
 
 def expect_index_end(body):
-    for wanted in MARK:
+    for wanted in LAST_BYTES:
         expect_byte(body, wanted, FORM_FAULT)
-    expect_byte(body, LAST_BYTE, FORM_FAULT)
     expect_end(body)

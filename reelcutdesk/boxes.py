@@ -1,7 +1,7 @@
-"""Boxes: the twelve bytes that open one, and the check behind its body."""
+"""Boxes: the twelve bytes that open one, its body, and the check behind that."""
 
 from reelcutdesk.crc import crc_of
-from reelcutdesk.forms import Body, Fault, from_lowest_first
+from reelcutdesk.forms import Body, Fault, from_lowest_first, lowest_first
 
 MARK = (76, 119, 142)
 HEAD_KIND = 72
@@ -10,6 +10,7 @@ INDEX_KIND = 73
 MOST_BODY = 600
 OPENING_SIZE = 12
 CRC_SIZE = 4
+BOX_SIZE = 16
 
 MARK_FAULT = 1
 LENGTH_FAULT = 2
@@ -31,12 +32,21 @@ def check_opening(data, place, kinds):
         raise Fault(OPENING_FAULT, place + 8)
 
 
+def crc_form(data):
+    return lowest_first(crc_of(data), CRC_SIZE)
+
+
+def box_of(kind, body):
+    first = list(MARK) + [kind] + lowest_first(len(body), 4)
+    return first + crc_form(first) + body + crc_form(body)
+
+
 def body_length(data, place):
     return from_lowest_first(data, place + 4, 4)
 
 
 def crc_stands(data, place, end):
-    return crc_of(data[place:end]) == from_lowest_first(data, end, CRC_SIZE)
+    return crc_form(data[place:end]) == data[end:end + CRC_SIZE]
 
 
 def may_begin(data, place):

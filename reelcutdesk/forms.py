@@ -3,6 +3,7 @@
 FORM_FAULT = 4
 MOST_NUMBER_BYTES = 10
 NUMBER_BOUND = 18446744073709551616
+MOST_BYTE = 255
 
 
 class Fault(Exception):
@@ -12,11 +13,13 @@ class Fault(Exception):
 
 
 # A box's body while it is read: where its numbers began, and the stream to be told with a fault.
+# In a plain one each number stands as it is, in one place: so a list that is handed in is read like a body.
 class Body:
     def __init__(self, data, place, end):
         self.data = data
         self.at = place
         self.end = end
+        self.plain = False
         self.places = []
         self.stream = 0
 
@@ -32,13 +35,33 @@ def from_lowest_first(data, place, size):
     return value
 
 
+def number_form(value):
+    form = []
+    while value > 127:
+        form.append(value & 127 | 128)
+        value = value >> 7
+    form.append(value)
+    return form
+
+
+def numbers_form(values):
+    form = []
+    for value in values:
+        form.extend(number_form(value))
+    return form
+
+
+def string_form(data):
+    return number_form(len(data)) + data
+
+
 def signed_form(value):
     if value < 0:
         return -2 * value - 1
     return 2 * value
 
 
-def take_byte(body):
+def take_one(body):
     if body.at == body.end:
         raise Fault(FORM_FAULT, body.end)
     body.at += 1
@@ -46,16 +69,21 @@ def take_byte(body):
 
 
 def expect_byte(body, wanted, kind):
-    if take_byte(body) != wanted:
+    if take_one(body) != wanted:
         raise Fault(kind, body.at - 1)
 
 
 def read_number(body):
-    first = body.at
-    body.places.append(first)
+    body.places.append(body.at)
+    if body.plain:
+        return take_one(body)
+    return read_number_form(body, body.at)
+
+
+def read_number_form(body, first):
     value = 0
     for k in range(MOST_NUMBER_BYTES):
-        byte = take_byte(body)
+        byte = take_one(body)
         value += (byte & 127) << (7 * k)
         if byte < 128:
             # A last byte of 0 adds nothing: a shorter form was there.
@@ -84,7 +112,11 @@ def read_string(body, most):
     if size > most or size > body.end - body.at:
         raise Fault(FORM_FAULT, body.places[-1])
     body.at += size
-    return body.data[body.at - size:body.at]
+    data = body.data[body.at - size:body.at]
+    # Only in a plain body can there be such.
+    if any([byte > MOST_BYTE for byte in data]):
+        raise Fault(FORM_FAULT, body.places[-1])
+    return data
 
 
 def read_rest(body):

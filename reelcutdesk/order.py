@@ -1,7 +1,7 @@
 """The order in which parts may stand."""
 
-KEY = 1
-STREAM_ENDS = 2
+from reelcutdesk.reels import KEY, STREAM_ENDS
+
 MOST_SECONDS_BACK = 10
 
 # Which of a part's four numbers stands against the order, counted from 0.
@@ -20,14 +20,14 @@ def is_too_early(streams, part, before):
     return time_before - time > MOST_SECONDS_BACK * rate.den * rate_before.den
 
 
-def wrong_in_order(streams, parts, part):
-    own = [other for other in parts if other.stream == part.stream]
+def wrong_in_order(reel, part):
+    own = [other for other in reel.parts if other.stream == part.stream]
     for other in own:
         if other.flags & STREAM_ENDS > 0:
             return STREAM_WRONG
     if len(own) > 0 and part.time < own[-1].time:
         return TIME_WRONG
-    if len(parts) > 0 and is_too_early(streams, part, parts[-1]):
+    if len(reel.parts) > 0 and is_too_early(reel.streams, part, reel.parts[-1]):
         return TIME_WRONG
     if len(own) == 0 and part.flags & KEY == 0:
         return FLAGS_WRONG

@@ -5,6 +5,7 @@ from reelcutdesk.boxes import CRC_SIZE, HEAD_KIND, INDEX_KIND, OPENING_SIZE, PAR
 from reelcutdesk.boxes import check_body, check_opening, may_begin, whole_body
 from reelcutdesk.forms import Fault
 from reelcutdesk.order import NONE_WRONG, wrong_in_order
+from reelcutdesk.reels import Reel, part_row
 
 TOLD_NOTHING = 0
 TOLD_HEAD = 1
@@ -44,8 +45,7 @@ class Reader:
         self.due = BOX_DUE
         self.place = 0
         self.opening_right = False
-        self.streams = []
-        self.parts = []
+        self.reel = Reel([])
         self.lost = False
         self.pending = None
         self.end_told = False
@@ -78,9 +78,9 @@ def take_over(reader, thing):
     reader.place = thing.place
     reader.opening_right = False
     if told == TOLD_HEAD:
-        reader.streams = thing.streams
+        reader.reel.streams = thing.streams
     elif told == TOLD_PART:
-        reader.parts.append(thing.part)
+        reader.reel.parts.append(thing.part)
     elif told == TOLD_INDEX:
         reader.due = END_DUE
     elif told == TOLD_FAULT:
@@ -94,7 +94,7 @@ def take_over(reader, thing):
 
 # Without a head nothing says which streams there are, so nothing behind it can be mended.
 def leave_fault(reader):
-    if reader.mend == 0 or len(reader.streams) == 0:
+    if reader.mend == 0 or len(reader.reel.streams) == 0:
         reader.due = OVER
     else:
         reader.due = SEARCH_DUE
@@ -137,9 +137,9 @@ def look_at_box(reader):
 
 # The parts told are counted, whatever was lost between them: a reel has no more than that in mending either.
 def kinds_due(reader):
-    if len(reader.streams) == 0:
+    if len(reader.reel.streams) == 0:
         return (HEAD_KIND,)
-    if len(reader.parts) == MOST_PARTS:
+    if len(reader.reel.parts) == MOST_PARTS:
         return (INDEX_KIND,)
     return (PART_KIND, INDEX_KIND)
 
@@ -164,25 +164,24 @@ def head_thing(body):
 
 
 def part_thing(reader, body):
-    part = read_part(body, reader.streams)
+    part = read_part(body, reader.reel.streams)
     part.place = reader.place
-    wrong = wrong_in_order(reader.streams, reader.parts, part)
+    wrong = wrong_in_order(reader.reel, part)
     if wrong != NONE_WRONG:
         if reader.mend == 0:
             raise Fault(ORDER_FAULT, body.places[wrong])
         part.flags += AGAINST_ORDER
-    size = len(part.data)
-    answer = [TOLD_PART, part.stream, part.flags, part.time, part.length, part.place, size, size]
-    thing = Thing(answer + part.data, body.end + CRC_SIZE)
+    answer = [TOLD_PART] + part_row(part) + [part.size] + part.data
+    thing = Thing(answer, body.end + CRC_SIZE)
     thing.part = part
     return thing
 
 
 def index_thing(reader, body):
-    if reader.lost or any([part.flags >= AGAINST_ORDER for part in reader.parts]):
-        read_loose_index(body, reader.streams)
+    if reader.lost or any([part.flags >= AGAINST_ORDER for part in reader.reel.parts]):
+        read_loose_index(body, reader.reel.streams)
     else:
-        expect_index(body, reader.streams, reader.parts, reader.place)
+        expect_index(body, reader.reel, reader.place)
     return Thing([TOLD_INDEX], body.end + CRC_SIZE)
 
 

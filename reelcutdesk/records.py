@@ -1,18 +1,30 @@
 """The calls on a record, as one list of numbers, and their answers as another."""
 
+from reelcutdesk.bodies import MOST_PARTS, listed_streams
+from reelcutdesk.forms import Fault
 from reelcutdesk.reading import TOLD_END, Reader, strict_stop, take_bytes, tell
+from reelcutdesk.reels import NONE_FOUND, Part, Reel, found_number, part_row
+from reelcutdesk.seeking import NotKnown, known_by_end
+from reelcutdesk.writing import end_reel, may_be_put, put_part
 
 JUDGE = 0
 READ = 1
 FEED = 2
 NEXT = 3
 STREAM = 4
+FIND = 5
+WRITE = 6
+PUT = 7
+END = 8
+SEEK = 9
 
 MOST_BYTES = 1500
 
 NOT_LET = -1
 TOO_MANY = -2
 NOT_NOW = -4
+NO_PART = -6
+FULL = -7
 NOT_RIGHT = -8
 
 
@@ -20,10 +32,22 @@ class UnknownCall(ValueError):
     pass
 
 
-# Empty while there is no reader.
+# Its reel is what is asked about, whether it was told, is known or is written; in an empty record it has no streams.
 class Record:
     def __init__(self):
         self.reader = None
+        self.reel = Reel([])
+        self.writes = False
+
+
+def become(record, reader, reel, writes):
+    record.reader = reader
+    record.reel = reel
+    record.writes = writes
+
+
+def become_empty(record):
+    become(record, None, Reel([]), False)
 
 
 # The list of calls while it is walked; the list itself is only read.
@@ -68,13 +92,32 @@ def answer_call(record, cursor):
         return answer_next(record)
     if call == STREAM:
         return answer_stream(record, take_number(cursor))
+    if call == FIND:
+        which = take_number(cursor)
+        return answer_find(record, which, take_number(cursor))
+    if call == WRITE:
+        return answer_write(record, take_row(cursor))
+    if call == PUT:
+        return answer_put(record, take_part(cursor))
+    if call == END:
+        return answer_end(record)
+    if call == SEEK:
+        return answer_seek(record, take_row(cursor))
     raise UnknownCall(call)
+
+
+def take_part(cursor):
+    stream = take_number(cursor)
+    flags = take_number(cursor)
+    time = take_number(cursor)
+    length = take_number(cursor)
+    return Part(stream, time, length, flags, take_row(cursor))
 
 
 def answer_judge(record, data):
     if len(data) > MOST_BYTES:
         return [TOO_MANY]
-    record.reader = None
+    become_empty(record)
     stop = strict_stop(data)
     if stop[0] == TOLD_END:
         return [0]
@@ -84,7 +127,8 @@ def answer_judge(record, data):
 def answer_read(record, mend):
     if mend > 1:
         return [NOT_LET]
-    record.reader = Reader(mend)
+    reader = Reader(mend)
+    become(record, reader, reader.reel, False)
     return [0]
 
 
@@ -107,18 +151,62 @@ def answer_next(record):
     return tell(record.reader)
 
 
-def streams_of(record):
-    if record.reader is None:
-        return []
-    return record.reader.streams
-
-
 def answer_stream(record, k):
-    streams = streams_of(record)
+    streams = record.reel.streams
     if len(streams) == 0:
         return [NOT_NOW]
     if k >= len(streams):
         return [NOT_LET]
     stream = streams[k]
-    answer = [0, stream.kind, stream.num, stream.den, len(stream.name)] + stream.name
-    return answer + [len(stream.setup)] + stream.setup
+    return [0, stream.kind, stream.num, stream.den] + counted(stream.name) + counted(stream.setup)
+
+
+def answer_find(record, which, time):
+    reel = record.reel
+    if len(reel.streams) == 0:
+        return [NOT_NOW]
+    if which >= len(reel.streams):
+        return [NOT_LET]
+    found = found_number(reel.parts, which, time)
+    if found == NONE_FOUND:
+        return [NO_PART]
+    return [found] + part_row(reel.parts[found])
+
+
+def answer_write(record, numbers):
+    try:
+        streams = listed_streams(numbers)
+    except Fault:
+        return [NOT_LET]
+    become(record, None, Reel(streams), True)
+    return [0]
+
+
+def answer_put(record, part):
+    if not record.writes:
+        return [NOT_NOW]
+    if not may_be_put(record.reel, part):
+        return [NOT_LET]
+    if len(record.reel.parts) == MOST_PARTS:
+        return [FULL]
+    return [0] + counted(put_part(record.reel, part))
+
+
+def answer_end(record):
+    if not record.writes:
+        return [NOT_NOW]
+    record.writes = False
+    return [0] + counted(end_reel(record.reel))
+
+
+def answer_seek(record, data):
+    become_empty(record)
+    try:
+        become(record, None, known_by_end(data), False)
+    except NotKnown:
+        return [NOT_RIGHT]
+    return [0]
+
+
+def counted(data):
+    return [len(data)] + data

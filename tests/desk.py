@@ -1,6 +1,7 @@
 """A record's calls made one by one, each answered through the one interface."""
 
 from reelcutdesk.records import answers
+from tests.reels import listed, part
 
 MOST_CALLS = 200
 MOST_NUMBERS = 18000
@@ -47,6 +48,22 @@ class Desk:
     def stream(self, k):
         return self.call([4, k])
 
+    def find(self, which, time):
+        return self.call([5, which, time])
+
+    def write(self, numbers):
+        return self.call([6, len(numbers)] + list(numbers))
+
+    def put(self, one):
+        which, time, length, flags, data = one
+        return self.call([7, which, flags, time, length, len(data)] + list(data))
+
+    def end(self):
+        return self.call([8])
+
+    def seek(self, data):
+        return self.call([9, len(data)] + list(data))
+
 
 def judge(data):
     return Desk().judge(data)
@@ -87,3 +104,51 @@ def play(pieces, mend):
 
 def told_of(data, mend):
     return [thing for thing, taken in play([data], mend)]
+
+
+def read_all(data, mend):
+    """A desk at which these bytes were read up to the end."""
+    desk = Desk()
+    desk.read(mend)
+    at = 0
+    while True:
+        at += max(desk.feed(1, data[at:])[0], 0)
+        if desk.next() == [6]:
+            return desk
+
+
+def writing(reel, count=0):
+    """A desk that writes that reel and has put its first parts."""
+    desk = Desk()
+    desk.write(listed(reel.streams))
+    for one in reel.parts[:count]:
+        desk.put(one)
+    return desk
+
+
+def knowing(data):
+    """A desk that knows that reel by its end."""
+    desk = Desk()
+    desk.seek(data)
+    return desk
+
+
+def read_parts(data):
+    """What read, feed, next and stream tell of these bytes: the streams and the parts."""
+    desk = Desk()
+    desk.read(0)
+    streams, parts = [], []
+    at = 0
+    while True:
+        at += desk.feed(0, data[at:])[0]
+        thing = desk.next()
+        if thing == [1]:
+            answer = desk.stream(0)
+            while answer != [-1]:
+                name = answer[5:5 + answer[4]]
+                streams.append(tuple(answer[1:4]) + (name, answer[6 + len(name):]))
+                answer = desk.stream(len(streams))
+        elif thing[0] == 2:
+            parts.append(part(thing[1], thing[3], thing[4], thing[2], thing[8:]))
+        else:
+            return streams, parts

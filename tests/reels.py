@@ -53,6 +53,14 @@ def stream(kind=7, num=1, den=1, name=(), setup=()):
     return (kind, num, den, list(name), list(setup))
 
 
+def listed(streams):
+    """The streams as write takes them."""
+    numbers = []
+    for kind, num, den, name, setup in streams:
+        numbers += [kind, num, den, len(name)] + name + [len(setup)] + setup
+    return numbers
+
+
 def head_body(streams):
     body = number(1) + number(len(streams))
     for kind, num, den, name, setup in streams:
@@ -100,10 +108,20 @@ class Reel:
         self.index = len(self.data)
         self.data += box(INDEX, index_body(parts, self.index))
 
-    def told_part(self, k, extra=0):
+    def row(self, k, extra=0):
         which, time, length, flags, data = self.parts[k]
-        size = len(data)
-        return [2, which, flags + extra, time, length, self.places[k], size, size] + data
+        return [which, flags + extra, time, length, self.places[k], len(data)]
+
+    def told_part(self, k, extra=0):
+        data = self.parts[k][4]
+        return [2] + self.row(k, extra) + [len(data)] + data
+
+    def found(self, k, extra=0):
+        return [k] + self.row(k, extra)
+
+    def told_stream(self, k):
+        kind, num, den, name, setup = self.streams[k]
+        return [0, kind, num, den, len(name)] + name + [len(setup)] + setup
 
     def told(self):
         return [[1]] + [self.told_part(k) for k in range(len(self.parts))] + [[3], [6]]
@@ -111,6 +129,12 @@ class Reel:
 
 def reel_of(parts, streams=None):
     return Reel(streams or [stream()], parts)
+
+
+def changed(data, at, change=1):
+    data = list(data)
+    data[at] ^= change
+    return data
 
 
 def with_index(reel, body):

@@ -2,8 +2,8 @@ import unittest
 
 from tests.desk import Desk, play, told_of
 from tests.reels import (
-    ENDS, HEAD, INDEX, KEY, MARK, PART, box, head_body, index_body, index_tail, number, opening, part, part_body,
-    reel_of, rich_reel, small_reel, stream, with_index)
+    ENDS, HEAD, INDEX, KEY, MARK, PART, box, changed, head_body, index_body, index_tail, number, opening, part,
+    part_body, reel_of, rich_reel, small_reel, stream, with_index)
 
 NOTHING = [[5, -1], [6]]
 TWO = [stream(), stream()]
@@ -15,12 +15,6 @@ def four_parts():
 
 def told_box(which, flags, time, place, data=()):
     return [2, which, flags, time, 0, place, len(data), len(data)] + list(data)
-
-
-def changed(data, at, change=1):
-    data = list(data)
-    data[at] ^= change
-    return data
 
 
 def with_loose_index(reel):
