@@ -245,6 +245,12 @@ class IndexNotKnown(Seeking):
         self.not_known(reel_of([part(time=2 ** 50), part(time=2 ** 50 + 1)], wide).data)
         self.not_known(reel_of([part(time=-2 ** 50), part(time=0)], wide).data)
 
+    def test_sizes_to_600(self):
+        for size in (596, 597, 600):
+            reel = reel_of([part(data=[1] * size)])
+            self.known(reel.data, reel)
+        self.not_known(reel_of([part(data=[1] * 601)]).data)
+
     def test_seventeen_parts(self):
         self.not_known(reel_of([part(time=k) for k in range(17)]).data)
 
